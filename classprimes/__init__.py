@@ -1,0 +1,1 @@
+"""Classprimes: which primes a form takes."""

@@ -1,0 +1,41 @@
+"""Whole numbers: what is one, and reckoning with them that several modules need."""
+
+
+def is_whole(value):
+    return isinstance(value, int) and not isinstance(value, bool)
+
+
+def is_whole_between(value, low, high):
+    return is_whole(value) and low <= value <= high
+
+
+def are_whole(value, count):
+    """Whether the value is a tuple of just so many whole numbers."""
+    return isinstance(value, tuple) and len(value) == count and all([is_whole(part) for part in value])
+
+
+def prime_parts(number):
+    """The primes of which the number is the product, each as often as it stands there."""
+    parts = []
+    prime = 2
+    while prime * prime <= number:
+        if number % prime == 0:
+            parts.append(prime)
+            number = number // prime
+        else:
+            prime += 1
+    if number > 1:
+        parts.append(number)
+    return parts
+
+
+def power_modulo(base, exponent, modulus):
+    """What the power of the base leaves modulo the modulus; the exponent is not below 0."""
+    result = 1 % modulus
+    square = base % modulus
+    while exponent > 0:
+        if exponent % 2 == 1:
+            result = result * square % modulus
+        square = square * square % modulus
+        exponent = exponent // 2
+    return result

@@ -1,0 +1,45 @@
+"""The interface of the document: names, arguments, and the files in which they are defined."""
+
+import ast
+import importlib
+import inspect
+import pathlib
+import unittest
+
+PACKAGE = pathlib.Path(__file__).resolve().parent.parent / "classprimes"
+FUNCTIONS = {
+    "discriminants": {"is_discriminant": "value", "parts_of": "discriminant", "symbol": "discriminant number"},
+    "forms": {
+        "is_form": "value", "discriminant_of": "form", "value_of": "form x y", "changed": "form change",
+        "reduced": "form", "change_between": "form other", "are_alike": "form other", "opposite": "form",
+        "automorphs": "form", "classes": "discriminant", "first_form": "discriminant"},
+    "values": {"solutions": "form number", "solutions_of_all": "discriminant number"},
+}
+ERRORS = {
+    "InvalidDiscriminant": "given", "InvalidForm": "given", "InvalidChange": "given", "InvalidNumber": "given",
+    "InvalidPrime": "given", "InvalidStep": "given", "InvalidCurve": "given", "OtherDiscriminant": "given",
+    "Divides": "given", "NoSquare": "given", "NotFirst": "given", "InvalidLines": "index", "BadText": "spot"}
+
+
+def defined_in(module):
+    """The names that the file itself defines by def or class at module level."""
+    tree = ast.parse((PACKAGE / f"{module}.py").read_text())
+    return [node.name for node in tree.body if isinstance(node, (ast.FunctionDef, ast.ClassDef))]
+
+
+class InterfaceTest(unittest.TestCase):
+    def test_functions(self):
+        for name, functions in FUNCTIONS.items():
+            module = importlib.import_module(f"classprimes.{name}")
+            for function, arguments in functions.items():
+                self.assertIn(function, defined_in(name))
+                parameters = inspect.signature(getattr(module, function)).parameters.values()
+                self.assertEqual([parameter.name for parameter in parameters], arguments.split())
+                for parameter in parameters:
+                    self.assertEqual(parameter.kind, parameter.POSITIONAL_OR_KEYWORD)
+
+    def test_errors(self):
+        module = importlib.import_module("classprimes.errors")
+        self.assertLessEqual({"ClassError"} | set(ERRORS), set(defined_in("errors")))
+        for name, attribute in ERRORS.items():
+            self.assertEqual(list(inspect.signature(getattr(module, name)).parameters), [attribute])

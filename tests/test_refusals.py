@@ -1,0 +1,94 @@
+"""What each function refuses: the error of the first wrong argument, with the whole value."""
+
+import itertools
+import unittest
+
+from classprimes import discriminants, forms, values
+from classprimes.errors import ClassError, InvalidChange, InvalidDiscriminant, InvalidForm, InvalidNumber
+from tests.common import (
+    NO_CHANGES, NO_DISCRIMINANTS, NO_FORMS, NO_NUMBERS, NO_NUMBERS_FROM_0, NO_NUMBERS_FROM_1)
+
+DISCRIMINANT = ("discriminant", -20, InvalidDiscriminant, NO_DISCRIMINANTS)
+FORM = ("form", (2, 2, 3), InvalidForm, NO_FORMS)
+OTHER = ("other", (1, 0, 5), InvalidForm, NO_FORMS)
+CHANGE = ("change", (1, 1, 0, 1), InvalidChange, NO_CHANGES)
+NO_PRIME_TO_20 = NO_NUMBERS_FROM_1 + [2, 4, 5, 10, 20, 35, 9998, 9995, 10000]
+# Each parameter with a value that is let, the error for one that is not, and such values.
+FUNCTIONS = [
+    (discriminants.parts_of, [DISCRIMINANT]),
+    (discriminants.symbol, [DISCRIMINANT, ("number", 7, InvalidNumber, NO_NUMBERS_FROM_1)]),
+    (forms.discriminant_of, [FORM]),
+    (forms.value_of, [FORM, ("x", -3, InvalidNumber, NO_NUMBERS), ("y", 2, InvalidNumber, NO_NUMBERS)]),
+    (forms.changed, [FORM, CHANGE]),
+    (forms.reduced, [FORM]),
+    (forms.change_between, [FORM, OTHER]),
+    (forms.are_alike, [FORM, OTHER]),
+    (forms.opposite, [FORM]),
+    (forms.automorphs, [FORM]),
+    (forms.classes, [DISCRIMINANT]),
+    (forms.first_form, [DISCRIMINANT]),
+    (values.solutions, [FORM, ("number", 7, InvalidNumber, NO_NUMBERS_FROM_0)]),
+    (values.solutions_of_all, [DISCRIMINANT, ("number", 7, InvalidNumber, NO_PRIME_TO_20)]),
+]
+
+
+class RefusalsTest(unittest.TestCase):
+    def check(self, call, error, wrong):
+        with self.assertRaises(ClassError) as caught:
+            call()
+        self.assertIs(type(caught.exception), error)
+        self.assertIs(caught.exception.given, wrong)
+
+    def test_each_wrong_value_of_each_parameter(self):
+        for function, parameters in FUNCTIONS:
+            for place, (name, _, error, wrong_ones) in enumerate(parameters):
+                for wrong in wrong_ones:
+                    arguments = [parameter[1] for parameter in parameters]
+                    arguments[place] = wrong
+                    with self.subTest(function=function.__name__, name=name, wrong=repr(wrong)[:80]):
+                        self.check(lambda: function(*arguments), error, wrong)
+
+    def test_first_wrong_one_of_several(self):
+        for function, parameters in FUNCTIONS:
+            for places in self.subsets(len(parameters)):
+                for wrong_ones in itertools.islice(itertools.product(
+                        *[parameters[place][3][::7] for place in places]), 500):
+                    arguments = {parameter[0]: parameter[1] for parameter in parameters}
+                    for place, wrong in zip(places, wrong_ones):
+                        arguments[parameters[place][0]] = wrong
+                    error = parameters[places[0]][2]
+                    with self.subTest(function=function.__name__, places=places):
+                        self.check(lambda: function(*arguments.values()), error, wrong_ones[0])
+                        backwards = {name: arguments[name] for name in reversed(list(arguments))}
+                        self.check(lambda: function(**backwards), error, wrong_ones[0])
+
+    def subsets(self, count):
+        return [places for many in range(1, count + 1) for places in itertools.combinations(range(count), many)]
+
+    def test_all_wrong_values_with_another_wrong_one_behind(self):
+        for function, parameters in FUNCTIONS:
+            for place, (name, _, error, wrong_ones) in enumerate(parameters[:-1]):
+                for wrong in wrong_ones:
+                    arguments = [parameter[1] for parameter in parameters[:place]]
+                    arguments += [wrong] + [[None] for _ in parameters[place + 1:]]
+                    with self.subTest(function=function.__name__, name=name, wrong=repr(wrong)[:80]):
+                        self.check(lambda: function(*arguments), error, wrong)
+
+    def test_right_values_are_let_by_position_and_by_name(self):
+        for function, parameters in FUNCTIONS:
+            arguments = {parameter[0]: parameter[1] for parameter in parameters}
+            self.assertEqual(repr(function(**arguments)), repr(function(*arguments.values())))
+
+    def test_refused_values_are_not_changed(self):
+        for function, parameters in FUNCTIONS:
+            for place, parameter in enumerate(parameters):
+                wrong = [2, [1], 3]
+                arguments = [each[1] for each in parameters]
+                arguments[place] = wrong
+                self.check(lambda: function(*arguments), parameter[2], wrong)
+                self.assertEqual(wrong, [2, [1], 3])
+
+    def test_questions_refuse_nothing(self):
+        for value in NO_DISCRIMINANTS + NO_FORMS[len(NO_NUMBERS) + 4:] + NO_CHANGES[len(NO_NUMBERS) + 3:]:
+            self.assertIs(discriminants.is_discriminant(value=value), False)
+            self.assertIs(forms.is_form(value=value), False)
