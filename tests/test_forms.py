@@ -284,8 +284,8 @@ class ClassesTest(unittest.TestCase):
 
     def test_known_numbers_of_classes(self):
         known = {
-            -3: 1, -4: 1, -12: 1, -15: 2, -16: 1, -23: 3, -27: 1, -28: 1, -39: 4, -47: 5, -71: 7, -84: 4, -163: 1, -167: 11,
-            -191: 13, -239: 15, -311: 19, -356: 12, -383: 17, -399: 16, -400: 4}
+            -3: 1, -4: 1, -12: 1, -15: 2, -16: 1, -23: 3, -27: 1, -28: 1, -39: 4, -47: 5, -71: 7, -84: 4, -163: 1,
+            -167: 11, -191: 13, -239: 15, -311: 19, -356: 12, -383: 17, -399: 16, -400: 4}
         for discriminant, count in known.items():
             self.assertEqual(len(classes(discriminant)), count)
 
