@@ -39,3 +39,18 @@ def power_modulo(base, exponent, modulus):
         square = square * square % modulus
         exponent = exponent // 2
     return result
+
+
+def is_prime(number):
+    """Whether the whole number is a prime; dividing goes up to its root."""
+    return prime_parts(number) == [number]
+
+
+def bezout(number, other):
+    """The pair s, t for which number s + other t is the greatest common divisor; both from 0 on, not both 0."""
+    s, t, u, v = 1, 0, 0, 1
+    while other > 0:
+        quotient, rest = divmod(number, other)
+        number, other = other, rest
+        s, t, u, v = u, v, s - quotient * u, t - quotient * v
+    return s, t

@@ -49,3 +49,8 @@ def solutions_of_all(discriminant, number):
     if not is_whole_between(number, 1, 10000) or gcd(number, discriminant) > 1:
         raise InvalidNumber(number)
     return sum([len(solutions(form, number)) for form in classes(discriminant)])
+
+
+def takes(form, number):
+    """Whether the reduced form takes the number, which is not below 0."""
+    return len(solutions_of_reduced(form, number)) > 0

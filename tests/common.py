@@ -1,5 +1,6 @@
 """What several tests need: valid and wrong values, and reckoning of their own."""
 
+import math
 from decimal import Decimal
 from fractions import Fraction
 
@@ -23,6 +24,9 @@ NO_NUMBERS = [
 NO_DISCRIMINANTS = NO_NUMBERS + [0, 1, -1, -2, -5, -6, -22, -398, -401, -402, -403, -404, -408, 3, 4, 23, GREAT, -GREAT]
 NO_NUMBERS_FROM_1 = NO_NUMBERS + [0, -1, -23, 10001, 10002, GREAT, -GREAT]
 NO_NUMBERS_FROM_0 = NO_NUMBERS + [-1, -23, 10001, 10002, GREAT, -GREAT]
+NO_PRIMES = NO_NUMBERS + [
+    0, 1, -1, -2, -3, -7, 4, 6, 9, 15, 25, 49, 91, 561, 1001, 9409, 9797, 9999, 10000, 10001, 10007, 10009, 104729,
+    GREAT, -GREAT]
 NO_FORMS = NO_NUMBERS + [
     0, 1, -23, GREAT,
     [1, 1, 6], {1: 1, 2: 1, 3: 6}, "116", range(1, 4), (1, 1), (1, 1, 6, 0), (1, 1, 6, 1, 1), ((1, 1, 6),),
@@ -146,3 +150,36 @@ def symbol_by_hand(discriminant, number):
         if number == 1:
             return result
     raise AssertionError(number)
+
+
+def reduced_by_hand(form):
+    a, b, c = form
+    while not is_reduced_by_hand((a, b, c)):
+        if -a < b <= a:
+            a, b, c = c, -b, a
+        step = (a - b) // (2 * a)
+        a, b, c = a, b + 2 * a * step, a * step * step + b * step + c
+    return (a, b, c)
+
+
+def first_by_hand(discriminant):
+    return (1, 0, -discriminant // 4) if discriminant % 4 == 0 else (1, 1, (1 - discriminant) // 4)
+
+
+def values_by_hand(form, highest):
+    """The values of a reduced FORM up to HIGHEST, as the keys of a dict."""
+    a, b, c = form
+    size = 4 * a * c - b * b
+    # 4 c times the value is from size x x on, 4 a times it from size y y on; - x, - y have the value of x, y.
+    width = math.isqrt(4 * c * highest // size) + 1
+    height = math.isqrt(4 * a * highest // size) + 1
+    found = {}
+    for y in range(height + 1):
+        for x in range(-width, width + 1):
+            number = a * x * x + b * x * y + c * y * y
+            if number <= highest:
+                found[number] = True
+    return found
+
+
+ALL_REDUCED = [form for discriminant in DISCRIMINANTS for form in REDUCED[discriminant]]

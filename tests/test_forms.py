@@ -7,10 +7,9 @@ from classprimes.forms import (
     are_alike, automorphs, change_between, changed, classes, discriminant_of, first_form, is_form, opposite, reduced,
     value_of)
 from tests.common import (
-    CHANGES, DISCRIMINANTS, GREAT, GREAT_CHANGES, NO_FORMS, REDUCED, changed_by_hand, fibonacci_change,
+    ALL_REDUCED, CHANGES, DISCRIMINANTS, GREAT, GREAT_CHANGES, NO_FORMS, REDUCED, changed_by_hand, fibonacci_change,
     have_common_divisor, is_reduced_by_hand, small_changes, value_by_hand)
 
-ALL_REDUCED = [form for discriminant in DISCRIMINANTS for form in REDUCED[discriminant]]
 FEW_REDUCED = [form for discriminant in (-3, -4, -7, -8, -20, -23, -56, -84, -87, -399, -400)
                for form in REDUCED[discriminant]]
 

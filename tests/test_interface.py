@@ -14,6 +14,16 @@ FUNCTIONS = {
         "reduced": "form", "change_between": "form other", "are_alike": "form other", "opposite": "form",
         "automorphs": "form", "classes": "discriminant", "first_form": "discriminant"},
     "values": {"solutions": "form number", "solutions_of_all": "discriminant number"},
+    "composing": {
+        "composed": "form other", "composing_numbers": "form other", "power": "form count", "order_of": "form",
+        "kind_of": "discriminant", "own_opposites": "discriminant", "squares": "discriminant"},
+    "genera": {
+        "residues_of": "form", "genera": "discriminant", "do_residues_tell": "discriminant",
+        "twins": "discriminant number"},
+    "primes": {
+        "classes_of": "discriminant prime", "order_at": "discriminant prime", "is_taken": "form prime",
+        "first_prime": "form"},
+    "singular": {"invariant": "form count", "class_polynomial": "discriminant"},
 }
 ERRORS = {
     "InvalidDiscriminant": "given", "InvalidForm": "given", "InvalidChange": "given", "InvalidNumber": "given",

@@ -7,6 +7,10 @@ import warnings
 
 PACKAGE = pathlib.Path(__file__).resolve().parent.parent / "classprimes"
 FILES = sorted(PACKAGE.rglob("*.py"))
+# L17: words that stand in no file but in comments and docstrings.
+WORDS = set(
+    "type typing typing_extensions enum Enum IntEnum StrEnum Flag IntFlag Generic Protocol ABC ABCMeta namedtuple "
+    "NamedTuple TypedDict TYPE_CHECKING abstractmethod mro elements open input law register".split())
 LIBRARY = {"math": {"gcd", "lcm", "isqrt", "comb", "perm", "factorial"}}
 BUILTINS = set(
     "len range enumerate zip min max sum abs sorted reversed int str bool bytes list tuple dict set isinstance ord "
@@ -72,6 +76,39 @@ class LanguageTest(unittest.TestCase):
                 self.assertNotIsInstance(node.value, (float, complex))
             if isinstance(node, ast.BinOp) and isinstance(node.op, ast.Pow):
                 self.assertIsInstance(node.right, ast.Constant, (path, node.lineno))
+                self.assertTrue(0 <= node.right.value <= 64, (path, node.lineno))
+            if isinstance(node, (ast.Name, ast.arg, ast.Attribute, ast.FunctionDef, ast.ClassDef)):
+                name = [getattr(node, field) for field in ("id", "arg", "attr", "name") if hasattr(node, field)][0]
+                self.assertNotIn(name, WORDS, (path, node.lineno))
+
+    def test_no_circle_of_imports(self):
+        waiting = {
+            f"classprimes.{path.stem}": {
+                node.module for node in ast.parse(path.read_text()).body if isinstance(node, ast.ImportFrom)}
+            for path in FILES}
+        while waiting:
+            ready = [name for name, needed in waiting.items() if not needed & set(waiting)]
+            self.assertNotEqual(ready, [], waiting)
+            waiting = {name: needed for name, needed in waiting.items() if name not in ready}
+
+    def test_imported_names_are_defined_there_and_keep_their_meaning(self):
+        for path, tree, node in self.nodes():
+            if isinstance(node, ast.Module):
+                imported = [each for each in node.body if isinstance(each, ast.ImportFrom)]
+                bound = [alias.name for each in imported for alias in each.names]
+                self.assertEqual(len(bound), len(set(bound)), path)
+                for each in imported:
+                    if each.module not in LIBRARY:
+                        source = ast.parse((PACKAGE / f"{each.module.partition('.')[2]}.py").read_text())
+                        defined = {part.name for part in source.body if hasattr(part, "name")}
+                        self.assertLessEqual({alias.name for alias in each.names}, defined)
+                used = {each.id for each in ast.walk(tree) if isinstance(each, ast.Name) and each.id in bound}
+                self.assertEqual(used, set(bound), path)
+                for each in ast.walk(tree):
+                    if isinstance(each, ast.arg):
+                        self.assertNotIn(each.arg, bound, path)
+                    if isinstance(each, ast.Name) and isinstance(each.ctx, ast.Store):
+                        self.assertNotIn(each.id, bound, (path, each.lineno))
 
     def test_names(self):
         known = {node.name for _, _, node in self.nodes() if isinstance(node, (ast.FunctionDef, ast.ClassDef))}

@@ -3,16 +3,22 @@
 import itertools
 import unittest
 
-from classprimes import discriminants, forms, values
-from classprimes.errors import ClassError, InvalidChange, InvalidDiscriminant, InvalidForm, InvalidNumber
+from classprimes import composing, discriminants, forms, genera, primes, singular, values
+from classprimes.errors import (
+    ClassError, Divides, InvalidChange, InvalidDiscriminant, InvalidForm, InvalidNumber, InvalidPrime,
+    OtherDiscriminant)
 from tests.common import (
-    NO_CHANGES, NO_DISCRIMINANTS, NO_FORMS, NO_NUMBERS, NO_NUMBERS_FROM_0, NO_NUMBERS_FROM_1)
+    GREAT, NO_CHANGES, NO_DISCRIMINANTS, NO_FORMS, NO_NUMBERS, NO_NUMBERS_FROM_0, NO_NUMBERS_FROM_1, NO_PRIMES)
 
 DISCRIMINANT = ("discriminant", -20, InvalidDiscriminant, NO_DISCRIMINANTS)
 FORM = ("form", (2, 2, 3), InvalidForm, NO_FORMS)
 OTHER = ("other", (1, 0, 5), InvalidForm, NO_FORMS)
 CHANGE = ("change", (1, 1, 0, 1), InvalidChange, NO_CHANGES)
 NO_PRIME_TO_20 = NO_NUMBERS_FROM_1 + [2, 4, 5, 10, 20, 35, 9998, 9995, 10000]
+PRIME = ("prime", 7, InvalidPrime, NO_PRIMES)
+NO_COUNTS = NO_NUMBERS + [-1001, 1001, 1002, -5000, GREAT, -GREAT]
+NO_MODULI = NO_NUMBERS + [0, -1, -20, 1001, 1002, 10000, GREAT, -GREAT]
+NO_DIGITS = NO_NUMBERS + [-1, -2, -30, 31, 32, 1000, GREAT, -GREAT]
 # Each parameter with a value that is let, the error for one that is not, and such values.
 FUNCTIONS = [
     (discriminants.parts_of, [DISCRIMINANT]),
@@ -29,6 +35,32 @@ FUNCTIONS = [
     (forms.first_form, [DISCRIMINANT]),
     (values.solutions, [FORM, ("number", 7, InvalidNumber, NO_NUMBERS_FROM_0)]),
     (values.solutions_of_all, [DISCRIMINANT, ("number", 7, InvalidNumber, NO_PRIME_TO_20)]),
+    (composing.composed, [FORM, OTHER]),
+    (composing.composing_numbers, [FORM, OTHER]),
+    (composing.power, [FORM, ("count", -3, InvalidNumber, NO_COUNTS)]),
+    (composing.order_of, [FORM]),
+    (composing.kind_of, [DISCRIMINANT]),
+    (composing.own_opposites, [DISCRIMINANT]),
+    (composing.squares, [DISCRIMINANT]),
+    (genera.residues_of, [FORM]),
+    (genera.genera, [DISCRIMINANT]),
+    (genera.do_residues_tell, [DISCRIMINANT]),
+    (genera.twins, [DISCRIMINANT, ("number", 7, InvalidNumber, NO_MODULI)]),
+    (genera.twins, [("discriminant", -23, InvalidDiscriminant, NO_DISCRIMINANTS),
+                    ("number", 7, InvalidNumber, NO_MODULI)]),
+    (primes.classes_of, [DISCRIMINANT, PRIME]),
+    (primes.order_at, [DISCRIMINANT, PRIME]),
+    (primes.is_taken, [FORM, PRIME]),
+    (primes.first_prime, [FORM]),
+    (singular.invariant, [FORM, ("count", 3, InvalidNumber, NO_DIGITS)]),
+    (singular.class_polynomial, [DISCRIMINANT]),
+]
+# Arguments that are wrong only together, and the one that is told.
+LAST = [
+    (composing.composed, {"form": (2, 2, 3), "other": (1, 1, 6)}, OtherDiscriminant, "other"),
+    (composing.composing_numbers, {"form": (2, 2, 3), "other": (1, 1, 6)}, OtherDiscriminant, "other"),
+    (primes.classes_of, {"discriminant": -20, "prime": 5}, Divides, "prime"),
+    (primes.order_at, {"discriminant": -20, "prime": 2}, Divides, "prime"),
 ]
 
 
@@ -73,6 +105,22 @@ class RefusalsTest(unittest.TestCase):
                     arguments += [wrong] + [[None] for _ in parameters[place + 1:]]
                     with self.subTest(function=function.__name__, name=name, wrong=repr(wrong)[:80]):
                         self.check(lambda: function(*arguments), error, wrong)
+
+    def test_what_is_told_last(self):
+        for function, arguments, error, name in LAST:
+            backwards = {each: arguments[each] for each in reversed(list(arguments))}
+            self.check(lambda: function(*arguments.values()), error, arguments[name])
+            self.check(lambda: function(**backwards), error, arguments[name])
+
+    def test_all_wrong_values_ahead_of_what_is_told_last(self):
+        parameters_of = dict(FUNCTIONS)
+        for function, arguments, _, _ in LAST:
+            for name, _, error, wrong_ones in parameters_of[function]:
+                for wrong in wrong_ones:
+                    with self.subTest(function=function.__name__, name=name, wrong=repr(wrong)[:80]):
+                        changed = {**arguments, name: wrong}
+                        self.check(lambda: function(*changed.values()), error, wrong)
+                        self.check(lambda: function(**changed), error, wrong)
 
     def test_right_values_are_let_by_position_and_by_name(self):
         for function, parameters in FUNCTIONS:
