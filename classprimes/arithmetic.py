@@ -1,5 +1,7 @@
 """Whole numbers: what is one, and reckoning with them that several modules need."""
 
+from math import gcd
+
 
 def is_whole(value):
     return isinstance(value, int) and not isinstance(value, bool)
@@ -54,3 +56,9 @@ def bezout(number, other):
         number, other = other, rest
         s, t, u, v = u, v, s - quotient * u, t - quotient * v
     return s, t
+
+
+def fraction(number, divisor):
+    """The fraction number / divisor in lowest terms; the divisor is above 0."""
+    shared = gcd(number, divisor)
+    return (number // shared, divisor // shared)

@@ -141,15 +141,20 @@ def automorphs(form):
 def classes(discriminant):
     """The reduced FORMs of the discriminant, ascending."""
     check_discriminant(discriminant)
-    # In a reduced form 4 a c - b b is at least 3 a a.
-    greatest = isqrt(-discriminant // 3)
+    return tuple([triple for triple in reduced_triples(-discriminant) if is_form(triple)])
+
+
+def reduced_triples(size):
+    """The triples with 4 a c - b b of this size, perhaps with a common divisor, reduced as FORMs are; ascending."""
+    # In a reduced one 4 a c - b b is at least 3 a a.
+    greatest = isqrt(size // 3)
     found = []
     for a in range(1, greatest + 1):
         for b in range(-a, a + 1):
-            c, rest = divmod(b * b - discriminant, 4 * a)
-            if rest == 0 and is_form((a, b, c)) and is_reduced((a, b, c)):
+            c, rest = divmod(b * b + size, 4 * a)
+            if rest == 0 and is_reduced((a, b, c)):
                 found.append((a, b, c))
-    return tuple(found)
+    return found
 
 
 def first_form(discriminant):

@@ -9,7 +9,11 @@ from classprimes.values import takes
 
 
 def check_prime(prime):
-    if not is_whole_between(prime, 2, 10000) or not is_prime(prime):
+    check_prime_between(prime, 2, 10000)
+
+
+def check_prime_between(prime, low, high):
+    if not is_whole_between(prime, low, high) or not is_prime(prime):
         raise InvalidPrime(prime)
 
 

@@ -1,8 +1,6 @@
 """The invariants of forms, and the class polynomial."""
 
-from math import gcd
-
-from classprimes.arithmetic import is_whole_between
+from classprimes.arithmetic import fraction, is_whole_between
 from classprimes.discriminants import check_discriminant
 from classprimes.disks import (
     cube, disk_of, divided, exponential, farthest, is_small, mirrored, multiple, pi, plus, reciprocal, square_root,
@@ -31,11 +29,6 @@ def enclosure(middle, spread, bits, count):
     low = ((middle - spread) * parts) >> bits
     high = -((-(middle + spread) * parts) >> bits)
     return (fraction(low, parts), fraction(high, parts))
-
-
-def fraction(number, divisor):
-    shared = gcd(number, divisor)
-    return (number // shared, divisor // shared)
 
 
 def invariant_disk(form, half_turn, bits):

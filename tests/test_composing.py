@@ -217,7 +217,8 @@ class OtherDiscriminantTest(unittest.TestCase):
             self.check_refused(form, other, OtherDiscriminant, other)
 
     def test_one_field_two_discriminants(self):
-        for form, other in (((1, 0, 1), (1, 0, 4)), ((1, 1, 1), (1, 0, 3)), ((1, 1, 6), (1, 0, 23)), ((1, 0, 3), (1, 1, 7))):
+        for form, other in (
+                ((1, 0, 1), (1, 0, 4)), ((1, 1, 1), (1, 0, 3)), ((1, 1, 6), (1, 0, 23)), ((1, 0, 3), (1, 1, 7))):
             self.check_refused(form, other, OtherDiscriminant, other)
             self.check_refused(other, form, OtherDiscriminant, form)
 

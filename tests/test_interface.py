@@ -24,6 +24,13 @@ FUNCTIONS = {
         "classes_of": "discriminant prime", "order_at": "discriminant prime", "is_taken": "form prime",
         "first_prime": "form"},
     "singular": {"invariant": "form count", "class_polynomial": "discriminant"},
+    "falling": {
+        "factors": "discriminant prime", "roots": "discriminant prime", "does_fall_wholly": "discriminant prime"},
+    "steps": {"phi": "step x y", "rings": "discriminant prime step"},
+    "counts": {"hurwitz": "number"},
+    "curves": {
+        "points_of": "prime curve", "invariant_of": "prime curve", "curve_with": "prime number",
+        "curves_with": "prime number", "discriminant_of_curve": "prime curve"},
 }
 ERRORS = {
     "InvalidDiscriminant": "given", "InvalidForm": "given", "InvalidChange": "given", "InvalidNumber": "given",

@@ -2,13 +2,16 @@
 
 import itertools
 import unittest
+from decimal import Decimal
+from fractions import Fraction
 
-from classprimes import composing, discriminants, forms, genera, primes, singular, values
+from classprimes import (
+    composing, counts, curves, discriminants, falling, forms, genera, primes, singular, steps, values)
 from classprimes.errors import (
-    ClassError, Divides, InvalidChange, InvalidDiscriminant, InvalidForm, InvalidNumber, InvalidPrime,
-    OtherDiscriminant)
+    ClassError, Divides, InvalidChange, InvalidCurve, InvalidDiscriminant, InvalidForm, InvalidNumber, InvalidPrime,
+    InvalidStep, NoSquare, NotFirst, OtherDiscriminant)
 from tests.common import (
-    GREAT, NO_CHANGES, NO_DISCRIMINANTS, NO_FORMS, NO_NUMBERS, NO_NUMBERS_FROM_0, NO_NUMBERS_FROM_1, NO_PRIMES)
+    GREAT, NO_CHANGES, NO_DISCRIMINANTS, NO_FORMS, NO_NUMBERS, NO_NUMBERS_FROM_0, NO_NUMBERS_FROM_1, NO_PRIMES, nested)
 
 DISCRIMINANT = ("discriminant", -20, InvalidDiscriminant, NO_DISCRIMINANTS)
 FORM = ("form", (2, 2, 3), InvalidForm, NO_FORMS)
@@ -19,6 +22,18 @@ PRIME = ("prime", 7, InvalidPrime, NO_PRIMES)
 NO_COUNTS = NO_NUMBERS + [-1001, 1001, 1002, -5000, GREAT, -GREAT]
 NO_MODULI = NO_NUMBERS + [0, -1, -20, 1001, 1002, 10000, GREAT, -GREAT]
 NO_DIGITS = NO_NUMBERS + [-1, -2, -30, 31, 32, 1000, GREAT, -GREAT]
+STEP = ("step", 3, InvalidStep, NO_NUMBERS + [0, 1, -2, -3, 4, 5, 6, 23, GREAT, -GREAT])
+FIELD = ("prime", 7, InvalidPrime, NO_PRIMES + [2, 3, 1009, 1013, 9973])
+SMALL_FIELD = ("prime", 7, InvalidPrime, NO_PRIMES + [2, 3, 101, 103, 997, 1009, 9973])
+NO_CURVES = NO_NUMBERS + [
+    0, 1, GREAT, [1, 3], "13", b"13", {1: 1, 3: 3}, range(2), (1,), (1, 3, 0), (1, 3, 1), ((1, 3),), ([1, 3],),
+    ([1], [3]), ((1,), (3,)), (True, 3), (1, True), (False, 3), (1, False), ("1", 3), (1, "3"), (None, 3), (1, None),
+    (Fraction(1), 3), (1, Decimal(3)), (object(), 3), (-1, 3), (1, -1), (1, -4), (7, 3), (1, 7), (8, 3), (1, 10),
+    (GREAT, 3), (1, -GREAT), (nested(list, 29), 3), (1, nested(tuple, 29)),
+    # 7 divides 4 A ^ 3 + 27 B B.
+    (0, 0), (1, 2), (1, 5), (2, 2), (2, 5), (4, 2), (4, 5)]
+CURVE = ("curve", (1, 3), InvalidCurve, NO_CURVES)
+NO_POINTS = NO_NUMBERS + [-1, -8, 2001, 2002, GREAT, -GREAT]
 # Each parameter with a value that is let, the error for one that is not, and such values.
 FUNCTIONS = [
     (discriminants.parts_of, [DISCRIMINANT]),
@@ -54,6 +69,17 @@ FUNCTIONS = [
     (primes.first_prime, [FORM]),
     (singular.invariant, [FORM, ("count", 3, InvalidNumber, NO_DIGITS)]),
     (singular.class_polynomial, [DISCRIMINANT]),
+    (falling.factors, [DISCRIMINANT, PRIME]),
+    (falling.roots, [DISCRIMINANT, PRIME]),
+    (falling.does_fall_wholly, [DISCRIMINANT, PRIME]),
+    (steps.phi, [STEP, ("x", -3, InvalidNumber, NO_NUMBERS), ("y", 2, InvalidNumber, NO_NUMBERS)]),
+    (steps.rings, [DISCRIMINANT, ("prime", 29, InvalidPrime, NO_PRIMES), STEP]),
+    (counts.hurwitz, [("number", 7, InvalidNumber, NO_NUMBERS_FROM_0)]),
+    (curves.points_of, [FIELD, CURVE]),
+    (curves.invariant_of, [FIELD, CURVE]),
+    (curves.curve_with, [FIELD, ("number", 7, InvalidNumber, NO_POINTS)]),
+    (curves.curves_with, [FIELD, ("number", 7, InvalidNumber, NO_POINTS)]),
+    (curves.discriminant_of_curve, [SMALL_FIELD, CURVE]),
 ]
 # Arguments that are wrong only together, and the one that is told.
 LAST = [
@@ -61,6 +87,16 @@ LAST = [
     (composing.composing_numbers, {"form": (2, 2, 3), "other": (1, 1, 6)}, OtherDiscriminant, "other"),
     (primes.classes_of, {"discriminant": -20, "prime": 5}, Divides, "prime"),
     (primes.order_at, {"discriminant": -20, "prime": 2}, Divides, "prime"),
+    (steps.rings, {"discriminant": -23, "prime": 23, "step": 2}, Divides, "prime"),
+    # The symbol at the step is not 1, or the prime is the step, too.
+    (steps.rings, {"discriminant": -20, "prime": 5, "step": 2}, Divides, "prime"),
+    (steps.rings, {"discriminant": -20, "prime": 2, "step": 2}, Divides, "prime"),
+    (steps.rings, {"discriminant": -23, "prime": 13, "step": 3}, NotFirst, "prime"),
+    (steps.rings, {"discriminant": -7, "prime": 2, "step": 2}, NotFirst, "prime"),
+    # The symbol at the step is not 1, too.
+    (steps.rings, {"discriminant": -20, "prime": 7, "step": 2}, NotFirst, "prime"),
+    (steps.rings, {"discriminant": -20, "prime": 29, "step": 2}, NoSquare, "step"),
+    (steps.rings, {"discriminant": -4, "prime": 5, "step": 3}, NoSquare, "step"),
 ]
 
 
