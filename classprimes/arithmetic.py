@@ -48,6 +48,11 @@ def is_prime(number):
     return prime_parts(number) == [number]
 
 
+def is_prime_between(value, low, high):
+    """Whether the value, whatever it is, is a prime from low, at least 2, up to high."""
+    return is_whole_between(value, low, high) and is_prime(value)
+
+
 def bezout(number, other):
     """The pair s, t for which number s + other t is the greatest common divisor; both from 0 on, not both 0."""
     s, t, u, v = 1, 0, 0, 1

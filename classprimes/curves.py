@@ -99,7 +99,6 @@ def curves_with(prime, number):
 def discriminant_of_curve(prime, curve):
     """The discriminant of the curve; None for the trace 0."""
     check_prime_between(prime, 5, 97)
-    check_curve(prime, curve)
     trace = trace_of(prime, points_of(prime, curve))
     if trace == 0:
         return None

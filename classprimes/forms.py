@@ -20,11 +20,16 @@ def check_form(form):
         raise InvalidForm(form)
 
 
+def is_change(value):
+    """Whether the value, whatever it is, is a CHANGE."""
+    if not are_whole(value, 4):
+        return False
+    p, q, r, s = value
+    return p * s - q * r == 1
+
+
 def check_change(change):
-    if not are_whole(change, 4):
-        raise InvalidChange(change)
-    p, q, r, s = change
-    if p * s - q * r != 1:
+    if not is_change(change):
         raise InvalidChange(change)
 
 

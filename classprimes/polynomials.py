@@ -104,6 +104,11 @@ def divided_out(polynomial, factor, prime):
     return exponent, polynomial
 
 
+def is_irreducible(polynomial, prime):
+    """Whether a polynomial with 1 ahead is no product of such of lesser degrees from 1 on."""
+    return factors_of(polynomial, prime) == ((polynomial, 1),)
+
+
 def common_with_powers(polynomial, power, prime):
     """What the polynomial has in common with x ^ (prime ^ k) - x; the power is the rest of x ^ (prime ^ k) by it."""
     # x ^ (prime ^ k) - x is the product of all irreducible ones of the degrees that divide k, each once.

@@ -1,6 +1,6 @@
 """Which classes take a prime."""
 
-from classprimes.arithmetic import is_prime, is_whole_between
+from classprimes.arithmetic import is_prime, is_prime_between
 from classprimes.composing import order_of
 from classprimes.discriminants import check_discriminant
 from classprimes.errors import Divides, InvalidPrime
@@ -13,7 +13,7 @@ def check_prime(prime):
 
 
 def check_prime_between(prime, low, high):
-    if not is_whole_between(prime, low, high) or not is_prime(prime):
+    if not is_prime_between(prime, low, high):
         raise InvalidPrime(prime)
 
 

@@ -171,6 +171,18 @@ class DiscriminantTest(unittest.TestCase):
                     if (4 * curve[0] ** 3 + 27 * curve[1] ** 2) % prime:
                         self.check(prime, curve)
 
+    def test_invariants_0_and_1728(self):
+        for prime in FIELDS:
+            if prime < 98:
+                for unit in range(1, prime, 1 + prime // 30):
+                    self.check(prime, (0, unit))
+                    self.check(prime, (unit, 0))
+
+    def test_great_parts(self):
+        # 4 * 97 - 25 is 3 * 11 * 11.
+        self.assertEqual([discriminant_of_curve(97, (1, 13)), discriminant_of_curve(97, (0, 4))], [-363, -3])
+        self.assertEqual([points_of(97, (1, 13)), points_of(97, (0, 4))], [93, 93])
+
     def test_by_name(self):
         self.assertEqual(discriminant_of_curve(curve=(2, 3), prime=59), -23)
 

@@ -31,6 +31,14 @@ FUNCTIONS = {
     "curves": {
         "points_of": "prime curve", "invariant_of": "prime curve", "curve_with": "prime number",
         "curves_with": "prime number", "discriminant_of_curve": "prime curve"},
+    "texts": {"form_text": "form", "read_form": "text", "read_product": "text"},
+    "console": {"run": "lines"},
+    "checker": {"accepts": "claim paper"},
+    "certificates": {
+        "certify_alike": "form other", "certify_composed": "form other", "certify_order_of": "form",
+        "certify_taken": "form prime", "certify_residues": "discriminant", "certify_twins": "discriminant number",
+        "certify_polynomial": "discriminant", "certify_order": "discriminant prime",
+        "certify_falls": "discriminant prime", "certify_rings": "discriminant prime step"},
 }
 ERRORS = {
     "InvalidDiscriminant": "given", "InvalidForm": "given", "InvalidChange": "given", "InvalidNumber": "given",

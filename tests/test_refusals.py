@@ -6,7 +6,8 @@ from decimal import Decimal
 from fractions import Fraction
 
 from classprimes import (
-    composing, counts, curves, discriminants, falling, forms, genera, primes, singular, steps, values)
+    certificates, composing, counts, curves, discriminants, falling, forms, genera, primes, singular, steps, texts,
+    values)
 from classprimes.errors import (
     ClassError, Divides, InvalidChange, InvalidCurve, InvalidDiscriminant, InvalidForm, InvalidNumber, InvalidPrime,
     InvalidStep, NoSquare, NotFirst, OtherDiscriminant)
@@ -80,6 +81,17 @@ FUNCTIONS = [
     (curves.curve_with, [FIELD, ("number", 7, InvalidNumber, NO_POINTS)]),
     (curves.curves_with, [FIELD, ("number", 7, InvalidNumber, NO_POINTS)]),
     (curves.discriminant_of_curve, [SMALL_FIELD, CURVE]),
+    (texts.form_text, [FORM]),
+    (certificates.certify_alike, [FORM, OTHER]),
+    (certificates.certify_composed, [FORM, OTHER]),
+    (certificates.certify_order_of, [FORM]),
+    (certificates.certify_taken, [FORM, PRIME]),
+    (certificates.certify_residues, [DISCRIMINANT]),
+    (certificates.certify_twins, [DISCRIMINANT, ("number", 7, InvalidNumber, NO_MODULI)]),
+    (certificates.certify_polynomial, [DISCRIMINANT]),
+    (certificates.certify_order, [DISCRIMINANT, PRIME]),
+    (certificates.certify_falls, [DISCRIMINANT, PRIME]),
+    (certificates.certify_rings, [DISCRIMINANT, ("prime", 29, InvalidPrime, NO_PRIMES), STEP]),
 ]
 # Arguments that are wrong only together, and the one that is told.
 LAST = [
@@ -87,17 +99,25 @@ LAST = [
     (composing.composing_numbers, {"form": (2, 2, 3), "other": (1, 1, 6)}, OtherDiscriminant, "other"),
     (primes.classes_of, {"discriminant": -20, "prime": 5}, Divides, "prime"),
     (primes.order_at, {"discriminant": -20, "prime": 2}, Divides, "prime"),
-    (steps.rings, {"discriminant": -23, "prime": 23, "step": 2}, Divides, "prime"),
-    # The symbol at the step is not 1, or the prime is the step, too.
-    (steps.rings, {"discriminant": -20, "prime": 5, "step": 2}, Divides, "prime"),
-    (steps.rings, {"discriminant": -20, "prime": 2, "step": 2}, Divides, "prime"),
-    (steps.rings, {"discriminant": -23, "prime": 13, "step": 3}, NotFirst, "prime"),
-    (steps.rings, {"discriminant": -7, "prime": 2, "step": 2}, NotFirst, "prime"),
-    # The symbol at the step is not 1, too.
-    (steps.rings, {"discriminant": -20, "prime": 7, "step": 2}, NotFirst, "prime"),
-    (steps.rings, {"discriminant": -20, "prime": 29, "step": 2}, NoSquare, "step"),
-    (steps.rings, {"discriminant": -4, "prime": 5, "step": 3}, NoSquare, "step"),
+    (certificates.certify_composed, {"form": (2, 2, 3), "other": (1, 1, 6)}, OtherDiscriminant, "other"),
+    (certificates.certify_taken, {"form": (2, 2, 3), "prime": 5}, Divides, "prime"),
+    (certificates.certify_order, {"discriminant": -20, "prime": 5}, Divides, "prime"),
+    (certificates.certify_order, {"discriminant": -20, "prime": 11}, NoSquare, "prime"),
+    (certificates.certify_falls, {"discriminant": -20, "prime": 2}, Divides, "prime"),
 ]
+for RINGS in (steps.rings, certificates.certify_rings):
+    LAST += [
+        (RINGS, {"discriminant": -23, "prime": 23, "step": 2}, Divides, "prime"),
+        # The symbol at the step is not 1, or the prime is the step, too.
+        (RINGS, {"discriminant": -20, "prime": 5, "step": 2}, Divides, "prime"),
+        (RINGS, {"discriminant": -20, "prime": 2, "step": 2}, Divides, "prime"),
+        (RINGS, {"discriminant": -23, "prime": 13, "step": 3}, NotFirst, "prime"),
+        (RINGS, {"discriminant": -7, "prime": 2, "step": 2}, NotFirst, "prime"),
+        # The symbol at the step is not 1, too.
+        (RINGS, {"discriminant": -20, "prime": 7, "step": 2}, NotFirst, "prime"),
+        (RINGS, {"discriminant": -20, "prime": 29, "step": 2}, NoSquare, "step"),
+        (RINGS, {"discriminant": -4, "prime": 5, "step": 3}, NoSquare, "step"),
+    ]
 
 
 class RefusalsTest(unittest.TestCase):
