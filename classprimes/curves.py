@@ -70,19 +70,27 @@ def curve_with(prime, number):
         return None
     many = how_many_roots(prime)
     # Each trace that is let has a curve.
-    for curve in some_with_each_number(prime, many.index(0)):
-        if count_points(curve, many) == number:
+    for curve in some_curves(prime):
+        count = count_points(curve, many)
+        if count == number:
             return curve
+        if 2 * prime + 2 - count == number:
+            return twisted(prime, curve, many.index(0))
 
 
-def some_with_each_number(prime, no_square):
-    """CURVEs among which each number of points that CURVEs have stands."""
+def some_curves(prime):
+    """CURVEs such that each number of points that CURVEs have is that of one of them, or of its twisted one."""
     # For u other than 0, (A u ^ 4, B u ^ 6) has as many points as (A, B): take (x u u, y u ^ 3) for (x, y).
-    # If neither A nor B is 0, B u u / A is made 1, or the number that is no square.
-    pairs = []
-    for unit in range(1, prime):
-        pairs += [(unit, unit), (unit, unit * no_square % prime), (unit, 0), (0, unit)]
+    # If neither A nor B is 0, this makes B / A 1 where it is a square; where it is none, that of the twisted one is.
+    units = range(1, prime)
+    pairs = [(unit, unit) for unit in units] + [(unit, 0) for unit in units] + [(0, unit) for unit in units]
     return [pair for pair in pairs if is_curve(prime, pair)]
+
+
+def twisted(prime, curve, no_square):
+    """The CURVE that has two points at x n where this one has none at x, and the other way round; n is no square."""
+    a, b = curve
+    return (a * no_square ** 2 % prime, b * no_square ** 3 % prime)
 
 
 def curves_with(prime, number):

@@ -119,7 +119,7 @@ def factors_of_degree(product, degree, prime):
     """The factors of a product of unlike irreducible ones of this degree, 1 ahead."""
     parts = [product] if len(product) > 1 else []
     # The digits of the numbers from the prime on are the polynomials that part it in two; there always is
-    # one that does, of a degree below that of the product, and half of all do.
+    # one that does, of a degree below that of the product, and about half of all do.
     number = prime
     while len(parts) * degree < len(product) - 1:
         witness = digits(number, prime)

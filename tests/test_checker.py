@@ -261,7 +261,8 @@ class ClaimsTest(CheckerTest):
             self.assertIs(told, number <= 1000)
 
     def test_numbers_that_are_no_residues(self):
-        for discriminant, prime, found in ((-23, 59, (20, 42, 44)), (-7, 3, (0,)), (-7, 11, (2,))):
+        for discriminant, prime, found in ((-23, 59, (20, 42, 44)), (-7, 3, (0,)), (-7, 11, (2,)), (-8, 7, (6,))):
+            self.assertIs(accepts(("falls wholly", discriminant, prime), found), True)
             for at, root in enumerate(found):
                 for other in (root - prime, root + prime, root + 2 * prime):
                     paper = tuple(sorted(found[:at] + (other,) + found[at + 1:]))
